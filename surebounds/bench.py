@@ -8,10 +8,15 @@ TOOL = 2
 READ = 3
 CHECK = 4
 KNOWN = 5
+NEXT = 6
+JUDGE = 7
+APART = 8
+BACK = 9
+COUNTS = 10
 
 # How many whole numbers stand behind a call's own; an item has a row there, which tells its length itself.
 # (The names above can't stand in it: a file's top holds plain values.)
-NUMBERS = {2: 5, 3: 3, 4: 4, 5: 1}
+NUMBERS = {2: 5, 3: 3, 4: 4, 5: 1, 6: 1, 7: 1, 8: 2, 9: 1, 10: 0}
 
 
 class NoSuchCall(ValueError):
@@ -24,6 +29,21 @@ def call_end(calls, at):
     return at + 1 + NUMBERS.get(calls[at], 0)
 
 
+# What is answered to a call that leaves the bench as it is.
+def told(book, call):
+    if call[0] == KNOWN:
+        return book.known(call[1])
+    if call[0] == NEXT:
+        return book.upcoming(call[1])
+    if call[0] == JUDGE:
+        return book.judge(call[1])
+    if call[0] == APART:
+        return book.apart(call[1], call[2])
+    if call[0] == COUNTS:
+        return book.counts()
+    raise NoSuchCall(call[0])
+
+
 def answer_of(book, call):
     if call[0] == ITEM:
         return book.add_item(call[2:])
@@ -33,9 +53,9 @@ def answer_of(book, call):
         return book.read(call[1], call[2], call[3])
     if call[0] == CHECK:
         return book.check(call[1], call[2], call[3], call[4])
-    if call[0] == KNOWN:
-        return book.known(call[1])
-    raise NoSuchCall(call[0])
+    if call[0] == BACK:
+        return book.back(call[1])
+    return told(book, call)
 
 
 def answers(calls):

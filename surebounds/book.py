@@ -1,8 +1,8 @@
 """A bench's book: items, tools and uses, and what is answered to each call."""
 
 from surebounds.texts import SizeFault, said
-from surebounds.tools import can_be_checked, can_read, check_span, is_tool, read_span
-from surebounds.worlds import Use, is_possible, item_bounds
+from surebounds.tools import can_be_checked, can_read, check_span, is_tool, read_span, turned
+from surebounds.worlds import Use, apart_bounds, is_possible, item_bounds, next_mark_bounds
 
 TOO_LONG = -1
 FAULTY = -2
@@ -15,6 +15,20 @@ MOST_BYTES = 64
 MOST_ITEMS = 16
 MOST_TOOLS = 8
 MOST_USES = 32
+
+UNTOLD = 0
+ACCEPTED = 1
+REFUSED = 2
+
+
+def judged(size, bounds):
+    least = size.nominal + size.lo
+    most = size.nominal + size.hi
+    if least <= bounds[0] and bounds[1] <= most:
+        return ACCEPTED
+    if bounds[1] < least or most < bounds[0]:
+        return REFUSED
+    return UNTOLD
 
 
 class Book:
@@ -68,8 +82,35 @@ class Book:
             return [UNFIT]
         return self.add_use(Use(tool, None, check_span(self.tools[tool], a, b, r)))
 
+    def bounds_of(self, item):
+        return item_bounds(len(self.sizes), self.tools, self.uses, item)
+
     def known(self, item):
         if item >= len(self.sizes):
             return [NO_SUCH]
-        bounds = item_bounds(len(self.sizes), self.tools, self.uses, item)
-        return [0, bounds[0], bounds[1]]
+        return [0] + list(self.bounds_of(item))
+
+    def upcoming(self, tool):
+        if tool >= len(self.tools):
+            return [NO_SUCH]
+        marks = next_mark_bounds(len(self.sizes), self.tools, self.uses, tool)
+        return [0] + list(turned(self.tools[tool], marks))
+
+    def judge(self, item):
+        if item >= len(self.sizes):
+            return [NO_SUCH]
+        return [judged(self.sizes[item], self.bounds_of(item))]
+
+    def apart(self, i, j):
+        if i >= len(self.sizes) or j >= len(self.sizes):
+            return [NO_SUCH]
+        return [0] + list(apart_bounds(len(self.sizes), self.tools, self.uses, i, j))
+
+    def back(self, n):
+        if n > len(self.uses):
+            return [NO_SUCH]
+        self.uses = self.uses[:n]
+        return [n]
+
+    def counts(self):
+        return [len(self.sizes), len(self.tools), len(self.uses)]

@@ -52,10 +52,15 @@ def can_be_checked(tool, a, b, r):
     return are_limits(a, b) and (tool.kind != INSTRUMENT or can_show(r))
 
 
-def first_span(tool):
+# From the mark's span to that of the nought or size, and from that one to the mark's.
+def turned(tool, span):
     if tool.kind == INSTRUMENT:
-        return (-tool.hi, -tool.lo)
-    return (tool.lo, tool.hi)
+        return (-span[1], -span[0])
+    return span
+
+
+def first_span(tool):
+    return turned(tool, (tool.lo, tool.hi))
 
 
 # Of a mark, above the mark of the tool's use before.

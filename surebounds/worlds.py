@@ -27,6 +27,10 @@ def item_value(item):
     return item + 1
 
 
+def mark_value(items, use):
+    return items + 1 + use
+
+
 def span_rows(low, high, span):
     rows = []
     if span[0] is not None:
@@ -51,7 +55,7 @@ def rows_of(items, tools, uses):
     for item in range(items):
         rows.extend(span_rows(GROUND, item_value(item), (LEAST_SIZE, MOST_SIZE)))
     before = {}
-    for mark, use in enumerate(uses, start=items + 1):
+    for mark, use in enumerate(uses, start=mark_value(items, 0)):
         tool = tools[use.tool]
         if use.tool in before:
             rows.extend(span_rows(before[use.tool], mark, later_span(tool)))
@@ -91,11 +95,24 @@ def is_possible(items, tools, uses):
 
 
 # The least and the most that the value at high is above that at low, in a possible book.
-def bounds_between(rows, values, low, high):
+def bounds_between(items, tools, uses, low, high):
+    rows = rows_of(items, tools, uses)
+    values = count_values(items, uses)
     least = -most_above(rows, values, high)[low]
     return (least, most_above(rows, values, low)[high])
 
 
 def item_bounds(items, tools, uses, item):
-    rows = rows_of(items, tools, uses)
-    return bounds_between(rows, count_values(items, uses), GROUND, item_value(item))
+    return bounds_between(items, tools, uses, GROUND, item_value(item))
+
+
+# Of item j's true size, above item i's.
+def apart_bounds(items, tools, uses, i, j):
+    return bounds_between(items, tools, uses, item_value(i), item_value(j))
+
+
+# Of the tool's mark at its next use, whatever that use will tell.
+def next_mark_bounds(items, tools, uses, tool):
+    # A use that tells nothing makes no world impossible, so every world goes on to it.
+    silent = Use(tool, None, (None, None))
+    return bounds_between(items, tools, uses + [silent], GROUND, mark_value(items, len(uses)))

@@ -33,6 +33,34 @@ def known(part):
     return [5, part]
 
 
+def coming(number):
+    """The call next, whose name is one of Python's own."""
+    return [6, number]
+
+
+def judge(part):
+    return [7, part]
+
+
+def apart(part, other):
+    return [8, part, other]
+
+
+def back(uses):
+    return [9, uses]
+
+
+def counts():
+    return [10]
+
+
+def everything(items, tools):
+    """All that a bench tells without being changed."""
+    calls = [known(part) for part in range(items)] + [judge(part) for part in range(items)]
+    calls = calls + [coming(number) for number in range(tools)]
+    return calls + [apart(i, j) for i in range(items) for j in range(items)] + [counts()]
+
+
 def split(answered):
     found = []
     at = 0
@@ -45,10 +73,15 @@ def split(answered):
     return found
 
 
+def flat(calls):
+    return [number for call in calls for number in call]
+
+
 def ask(calls):
     """Answer to each of the calls, given as a list of lists."""
-    flat = [number for call in calls for number in call]
-    found = split(answers(flat))
+    if len(calls) > 400 or len(flat(calls)) > 23000:
+        raise AssertionError("more calls, or more numbers, than the interface allows")
+    found = split(answers(flat(calls)))
     if len(found) != len(calls):
         raise AssertionError("as many answers as calls are asked for")
     return found

@@ -63,6 +63,14 @@ class Known(unittest.TestCase):
         calls = calls + [known(0), known(8)]
         self.assertEqual(ask(calls)[-2:], [[0, 1, 2000 - 70], [0, 81, 2010]])
 
+    def test_the_last_use_of_a_full_book_tells_of_the_first(self):
+        # 30 uses between tell nothing by themselves, but at each of the 31 steps the nought may move by 1.
+        calls = [item("25"), tool(0, -5000, 5000, 0, 1), read(0, 0, 9000)] + [check(0, -9999, 9999, 0)] * 30
+        calls = calls + [known(0), check(0, 100, 100, 110), known(0)]
+        self.assertEqual(ask(calls)[-3:], [[0, 4000, 14000], [32], [0, 9000 - 10 - 31, 9000 - 10 + 31]])
+        other = [item("25"), tool(0, -5000, 5000, 0, 1), check(0, 100, 100, 110)] + [check(0, -9999, 9999, 0)] * 30
+        self.assertEqual(last(other + [read(0, 0, 9000), known(0)]), [0, 9000 - 10 - 31, 9000 - 10 + 31])
+
 
 if __name__ == "__main__":
     unittest.main()
